@@ -1,0 +1,1 @@
+"""Chameleons that meet on an island and change as a rule says."""
